@@ -1,0 +1,1 @@
+"""Stopping a stimulation campaign before a seismic event."""
