@@ -1,20 +1,29 @@
 """A stimulation campaign, and the calls that change it and ask of it."""
 
-from haltdays.worth import Day, best_count_of_days, lookahead_count_of_days, plan_value_of_days, value_of_days
+from haltdays.worth import (
+    Day, best_count_of_days, greatest_worthwhile_cost, is_monotone_case, lookahead_count_of_days, plan_value_of_days,
+    quiet_probability_of_days, single_value_of_day, value_of_days, with_other_cost,
+)
 
 MOST_DAYS = 10
 GREATEST_GAIN = 1000
 GREATEST_DENOMINATOR = 100
 GREATEST_COST = 10000
+GREATEST_SAMPLE = 999
+# Samples are in thousandths.
+SAMPLES = 1000
 
 RUNNING = 0
+ENDED_BY_EVENT = 1
+STOPPED = 2
 
 NO_SUCH_DAY = -2
 NOTHING_TO_REMOVE = -6
 NOT_CREATED = -11
-DAY_IS_PAST = -16
+PAST_OR_NOT_RUNNING = -16
 OUT_OF_RANGE = -22
 TOO_MANY_DAYS = -28
+NO_DAY_OR_COST = -33
 
 
 class Campaign:
@@ -25,6 +34,9 @@ class Campaign:
         self.next_day = 0
         self.total = 0
         self.status = RUNNING
+
+    def has_day(self, number):
+        return number < len(self.days)
 
     def remaining_days(self):
         return self.days[self.next_day:]
@@ -60,12 +72,12 @@ def add_day(campaign, arguments):
 def set_day(campaign, arguments):
     day = arguments[0]
     fields = arguments[1:]
-    if day >= len(campaign.days):
+    if not campaign.has_day(day):
         return [NO_SUCH_DAY]
     if not is_in_range(fields):
         return [OUT_OF_RANGE]
     if day < campaign.next_day:
-        return [DAY_IS_PAST]
+        return [PAST_OR_NOT_RUNNING]
     campaign.days[day] = day_with(fields)
     return [0]
 
@@ -78,7 +90,7 @@ def remove_last_day(campaign, arguments):
 
 
 def get_day(campaign, arguments):
-    if arguments[0] >= len(campaign.days):
+    if not campaign.has_day(arguments[0]):
         return [NO_SUCH_DAY]
     day = campaign.days[arguments[0]]
     return [day.gain, day.event_top, day.event_bottom, day.cost]
@@ -111,10 +123,93 @@ def lookahead_count(campaign, arguments):
     return [lookahead_count_of_days(campaign.remaining_days())]
 
 
+def single_day_value(campaign, arguments):
+    if not campaign.has_day(arguments[0]):
+        return [NO_SUCH_DAY]
+    return with_fraction(single_value_of_day(campaign.days[arguments[0]]))
+
+
+def is_monotone(campaign, arguments):
+    return [1 if is_monotone_case(campaign.remaining_days()) else 0]
+
+
+def quiet_probability(campaign, arguments):
+    count = arguments[0]
+    remaining = campaign.remaining_days()
+    if count > len(remaining):
+        return [NO_SUCH_DAY]
+    return with_fraction(quiet_probability_of_days(remaining[:count]))
+
+
+def continue_campaign(campaign, arguments):
+    sample = arguments[0]
+    if sample > GREATEST_SAMPLE:
+        return [OUT_OF_RANGE]
+    if campaign.status != RUNNING:
+        return [PAST_OR_NOT_RUNNING]
+    if not campaign.has_day(campaign.next_day):
+        return [NO_DAY_OR_COST]
+    day = campaign.days[campaign.next_day]
+    campaign.next_day += 1
+    if sample * day.event_bottom < SAMPLES * day.event_top:
+        campaign.status = ENDED_BY_EVENT
+        campaign.total -= day.cost
+        return [1, campaign.total]
+    campaign.total += day.gain
+    return [0, campaign.total]
+
+
+def stop(campaign, arguments):
+    if campaign.status != RUNNING:
+        return [PAST_OR_NOT_RUNNING]
+    campaign.status = STOPPED
+    return [0, campaign.total]
+
+
+def restart(campaign, arguments):
+    previous_next_day = campaign.next_day
+    campaign.next_day = 0
+    campaign.total = 0
+    campaign.status = RUNNING
+    return [previous_next_day]
+
+
+def max_event_cost(campaign, arguments):
+    number = arguments[0]
+    if not campaign.has_day(number):
+        return [NO_SUCH_DAY]
+    day = campaign.days[number]
+    if day.event_top == 0:
+        return [GREATEST_COST]
+    cost = greatest_worthwhile_cost(day, value_of_days(campaign.days[number + 1:]))
+    if cost < 0:
+        return [NO_DAY_OR_COST]
+    return [min(cost, GREATEST_COST)]
+
+
+def value_with_cost(campaign, arguments):
+    number = arguments[0]
+    cost = arguments[1]
+    if not campaign.has_day(number):
+        return [NO_SUCH_DAY]
+    if cost > GREATEST_COST:
+        return [OUT_OF_RANGE]
+    days = list(campaign.days)
+    days[number] = with_other_cost(days[number], cost)
+    return with_fraction(value_of_days(days[campaign.next_day:]))
+
+
+def is_worthwhile(campaign, arguments):
+    return [1 if value_of_days(campaign.remaining_days()).top > 0 else 0]
+
+
+def summary(campaign, arguments):
+    return [len(campaign.days), campaign.next_day, campaign.status, campaign.total]
+
+
 CREATE = 0
 
-# How many numbers stand behind the number of each call, from create to summary. All
-# twenty are here, since any of them may come before create and is then refused.
+# How many numbers stand behind the number of each call, from create to summary.
 ARGUMENT_COUNTS = (0, 4, 5, 0, 1, 0, 1, 1, 0, 0, 1, 0, 1, 1, 0, 0, 1, 2, 0, 0)
 
 # All are called alike, with the campaign and the call's arguments, though some have none to read.
@@ -128,6 +223,16 @@ OPERATIONS = {
     7: plan_value,
     8: best_count,
     9: lookahead_count,
+    10: single_day_value,
+    11: is_monotone,
+    12: quiet_probability,
+    13: continue_campaign,
+    14: stop,
+    15: restart,
+    16: max_event_cost,
+    17: value_with_cost,
+    18: is_worthwhile,
+    19: summary,
 }
 
 

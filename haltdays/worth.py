@@ -23,6 +23,10 @@ class Day:
         self.cost = cost
 
 
+def with_other_cost(day, cost):
+    return Day(day.gain, day.event_top, day.event_bottom, cost)
+
+
 def common_divisor(first, second):
     """The greatest whole number that divides both; the second is positive."""
     larger = first
@@ -93,3 +97,34 @@ def lookahead_count_of_days(days):
         if single_value_of_day(day).top <= 0:
             return count
     return len(days)
+
+
+def is_monotone_case(days):
+    """Whether no day behind the first that is not worthwhile alone is worthwhile alone."""
+    for day in days[lookahead_count_of_days(days):]:
+        if single_value_of_day(day).top > 0:
+            return False
+    return True
+
+
+def quiet_probability_of_days(days):
+    """The probability that no event occurs on any of the days."""
+    quiet_top = 1
+    bottom = 1
+    for day in days:
+        quiet_top *= day.event_bottom - day.event_top
+        bottom *= day.event_bottom
+    return lowest_terms(quiet_top, bottom)
+
+
+def greatest_worthwhile_cost(day, rest):
+    """The greatest whole event cost at which going on is worth more than 0, or a number below 0.
+
+    The day's event probability is not 0, as without an event its cost sets no bound.
+    """
+    free_of_cost = value_of_going_on(with_other_cost(day, 0), rest)
+    # Both sides of p * cost < free_of_cost are multiplied with both bottoms.
+    limit = free_of_cost.top * day.event_bottom
+    step = day.event_top * free_of_cost.bottom
+    # At step * cost == limit it is worth just 0, so the cost has to stay below that.
+    return (limit - 1) // step

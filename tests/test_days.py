@@ -2,11 +2,9 @@
 
 import unittest
 
-from haltdays.campaign import Campaign
-from haltdays import campaign as program
 from tests.asking import (
-    CALLS_BUT_CREATE, CREATE, GREATEST_NUMBER, REMOVE_LAST_DAY, VALUE, add_day, ask, ask_of, get_day, set_day,
-    value_from,
+    CALLS_BUT_CREATE, CREATE, GREATEST_NUMBER, LOOK, REMOVE_LAST_DAY, RESTART, STOP, SUMMARY, VALUE, add_day,
+    ask, ask_behind, ask_of, continue_campaign, creating, get_day, look_around, set_day, value_from,
 )
 
 DAY = (10, 1, 10, 50)
@@ -28,26 +26,17 @@ OUT_OF_RANGE = [
 ]
 
 
-def campaign_at(next_day, days):
-    """A campaign whose first days are past, which no call of this stage brings about."""
-    campaign = Campaign()
-    for day in days:
-        program.add_day(campaign, list(day))
-    campaign.next_day = next_day
-    return campaign
-
-
-def state_of(campaign):
-    days = [(day.gain, day.event_top, day.event_bottom, day.cost) for day in campaign.days]
-    return days, campaign.next_day, campaign.total, campaign.status
-
-
 class CreateTest(unittest.TestCase):
     def test_answers_0(self):
         self.assertEqual(ask(CREATE), [[0]])
 
     def test_sets_every_field(self):
-        self.assertEqual(state_of(Campaign()), ([], 0, 0, 0))
+        empty = [[0, 0, 0, 0]] + [[-2]] * 10
+        self.assertEqual(ask(CREATE, *LOOK), [[0]] + empty)
+        for ended in ([], [STOP], [continue_campaign(0)]):
+            with self.subTest(ended=ended):
+                told = ask_behind(creating([DAY, OTHER_DAY], 1) + ended, CREATE, *LOOK)
+                self.assertEqual(told, [[0]] + empty)
 
     def test_a_new_campaign_has_no_day(self):
         self.assertEqual(ask(CREATE, get_day(0), REMOVE_LAST_DAY, value_from(1)), [[0], [-2], [-6], [-2]])
@@ -107,15 +96,27 @@ class AddDayTest(unittest.TestCase):
         self.assertEqual(told, [[9], [9], [-28], list(OTHER_DAY)])
 
     def test_past_days_count_among_the_ten(self):
-        campaign = campaign_at(10, [DAY] * 10)
-        self.assertEqual(program.add_day(campaign, list(DAY)), [-28])
+        for past in (1, 10):
+            with self.subTest(past=past):
+                self.assertEqual(ask_behind(creating([DAY] * 10, past), add_day(*DAY)), [[-28]])
+                self.assertEqual(ask_behind(creating([DAY] * 9, past - 1), add_day(*DAY)), [[9]])
 
     def test_is_possible_in_every_status(self):
-        for status in range(3):
-            campaign = campaign_at(1, [DAY])
-            campaign.status = status
+        running = creating([DAY], 1)
+        stopped = running + [STOP]
+        ended = creating([DAY]) + [continue_campaign(0)]
+        for status, ahead in enumerate([running, ended, stopped]):
             with self.subTest(status=status):
-                self.assertEqual(program.add_day(campaign, list(DAY)), [1])
+                told = ask_behind(ahead, SUMMARY, add_day(*OTHER_DAY), get_day(1), SUMMARY)
+                total = told[0][3]
+                self.assertEqual(told, [[1, 1, status, total], [1], list(OTHER_DAY), [2, 1, status, total]])
+
+    def test_refuses_in_every_status(self):
+        for ended in ([], [STOP], [continue_campaign(0)]):
+            with self.subTest(ended=ended):
+                answer, before, behind = look_around(creating([DAY] * 2, 1) + ended, add_day(*OUT_OF_RANGE[0]))
+                self.assertEqual(answer, [-22])
+                self.assertEqual(behind, before)
 
 
 class SetDayTest(unittest.TestCase):
@@ -149,22 +150,42 @@ class SetDayTest(unittest.TestCase):
                 self.assertEqual(ask_of([DAY], set_day(1, *day)), [[-2]])
 
     def test_refuses_a_past_day_and_leaves_it(self):
-        for day in range(2):
-            campaign = campaign_at(2, [DAY] * 3)
-            before = state_of(campaign)
-            with self.subTest(day=day):
-                self.assertEqual(program.set_day(campaign, [day, *OTHER_DAY]), [-16])
-                self.assertEqual(state_of(campaign), before)
+        for past in (1, 2, 3):
+            for day in range(past):
+                with self.subTest(past=past, day=day):
+                    answer, before, behind = look_around(creating([DAY] * 3, past), set_day(day, *OTHER_DAY))
+                    self.assertEqual(answer, [-16])
+                    self.assertEqual(behind, before)
+                    self.assertEqual(before[0], [3, past, 0, 10 * past])
 
-    def test_takes_the_next_day(self):
-        campaign = campaign_at(2, [DAY] * 3)
-        self.assertEqual(program.set_day(campaign, [2, *OTHER_DAY]), [0])
-        self.assertEqual(state_of(campaign), ([DAY, DAY, OTHER_DAY], 2, 0, 0))
+    def test_takes_the_next_day_and_those_behind_it(self):
+        for day in (2, 3):
+            with self.subTest(day=day):
+                answer, before, behind = look_around(creating([DAY] * 4, 2), set_day(day, *OTHER_DAY))
+                self.assertEqual(answer, [0])
+                changed = list(before)
+                changed[1 + day] = list(OTHER_DAY)
+                self.assertEqual(behind, changed)
+
+    def test_is_possible_in_every_status(self):
+        for status, ended in enumerate([[], [continue_campaign(0)], [STOP]]):
+            ahead = creating([DAY] * 3, 1) + ended
+            with self.subTest(status=status):
+                told = ask_behind(ahead, SUMMARY, set_day(2, *OTHER_DAY), get_day(2), set_day(0, *OTHER_DAY))
+                self.assertEqual(told[0][2], status)
+                self.assertEqual(told[1:], [[0], list(OTHER_DAY), [-16]])
 
     def test_looks_at_the_ranges_before_the_next_day(self):
         for day in OUT_OF_RANGE:
             with self.subTest(day=day):
-                self.assertEqual(program.set_day(campaign_at(1, [DAY] * 2), [0, *day]), [-22])
+                self.assertEqual(ask_behind(creating([DAY] * 2, 1), set_day(0, *day)), [[-22]])
+
+    def test_looks_for_the_day_before_the_next_day(self):
+        self.assertEqual(ask_behind(creating([DAY] * 2, 2), set_day(2, *DAY), set_day(1, *DAY)), [[-2], [-16]])
+
+    def test_a_past_day_can_be_set_again_behind_restart(self):
+        told = ask_behind(creating([DAY] * 2, 2), set_day(0, *OTHER_DAY), RESTART, set_day(0, *OTHER_DAY), get_day(0))
+        self.assertEqual(told, [[-16], [2], [0], list(OTHER_DAY)])
 
 
 class RemoveLastDayTest(unittest.TestCase):
@@ -180,10 +201,23 @@ class RemoveLastDayTest(unittest.TestCase):
         self.assertEqual(ask_of([], REMOVE_LAST_DAY, REMOVE_LAST_DAY, add_day(*DAY)), [[-6], [-6], [0]])
 
     def test_leaves_past_days(self):
-        campaign = campaign_at(1, [DAY, OTHER_DAY])
-        self.assertEqual(program.remove_last_day(campaign, []), [1])
-        self.assertEqual(program.remove_last_day(campaign, []), [-6])
-        self.assertEqual(state_of(campaign), ([DAY], 1, 0, 0))
+        removing = [REMOVE_LAST_DAY] * 3
+        told = ask_behind(creating([DAY] * 4, 2), *removing, SUMMARY, add_day(*DAY), *removing[1:])
+        self.assertEqual(told, [[3], [2], [-6], [2, 2, 0, 20], [2], [2], [-6]])
+
+    def test_a_refusal_changes_nothing(self):
+        answer, before, behind = look_around(creating([DAY] * 2, 2), REMOVE_LAST_DAY)
+        self.assertEqual(answer, [-6])
+        self.assertEqual(behind, before)
+
+    def test_is_possible_in_every_status(self):
+        for status, ended in enumerate([[], [continue_campaign(0)], [STOP]]):
+            ahead = creating([DAY] * 3, 1) + ended
+            left = 3 - (2 if status == 1 else 1)
+            with self.subTest(status=status):
+                told = ask_behind(ahead, SUMMARY, *[REMOVE_LAST_DAY] * left, REMOVE_LAST_DAY)
+                self.assertEqual(told[0][2], status)
+                self.assertEqual(told[1:], [[count] for count in range(2, 2 - left, -1)] + [[-6]])
 
 
 class GetDayTest(unittest.TestCase):
@@ -200,42 +234,8 @@ class GetDayTest(unittest.TestCase):
         self.assertEqual(ask_of([DAY] * 10, get_day(9), get_day(10), get_day(11)), [list(DAY), [-2], [-2]])
 
     def test_tells_past_days_too(self):
-        campaign = campaign_at(2, [DAY, OTHER_DAY])
-        self.assertEqual(program.get_day(campaign, [0]), list(DAY))
-        self.assertEqual(program.get_day(campaign, [1]), list(OTHER_DAY))
-
-
-class PastDaysTest(unittest.TestCase):
-    """Past days have no part in what is told of the remaining ones."""
-
-    def setUp(self):
-        self.campaign = campaign_at(1, [(100, 0, 1, 0), DAY, (0, 1, 1, 5)])
-
-    def test_value(self):
-        self.assertEqual(program.value(self.campaign, []), [0, 4, 1])
-
-    def test_value_from_counts_all_days(self):
-        self.assertEqual(program.value_from(self.campaign, [0]), [0, 104, 1])
-        self.assertEqual(program.value_from(self.campaign, [1]), [0, 4, 1])
-        self.assertEqual(program.value_from(self.campaign, [3]), [0, 0, 1])
-        self.assertEqual(program.value_from(self.campaign, [4]), [-2])
-
-    def test_plan_value(self):
-        self.assertEqual(program.plan_value(self.campaign, [0]), [0, 0, 1])
-        self.assertEqual(program.plan_value(self.campaign, [1]), [0, 4, 1])
-        self.assertEqual(program.plan_value(self.campaign, [2]), [0, -1, 2])
-        self.assertEqual(program.plan_value(self.campaign, [3]), [-2])
-
-    def test_counts(self):
-        self.assertEqual(program.best_count(self.campaign, []), [1])
-        self.assertEqual(program.lookahead_count(self.campaign, []), [1])
-
-    def test_no_remaining_day(self):
-        self.campaign.next_day = 3
-        self.assertEqual(program.value(self.campaign, []), [0, 0, 1])
-        self.assertEqual(program.plan_value(self.campaign, [1]), [-2])
-        self.assertEqual(program.best_count(self.campaign, []), [0])
-        self.assertEqual(program.lookahead_count(self.campaign, []), [0])
+        told = ask_behind(creating([DAY, OTHER_DAY], 2), get_day(0), get_day(1), get_day(2))
+        self.assertEqual(told, [list(DAY), list(OTHER_DAY), [-2]])
 
 
 if __name__ == "__main__":

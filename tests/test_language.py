@@ -123,6 +123,18 @@ class LanguageTest(unittest.TestCase):
                     with self.subTest(file=name, line=node.lineno):
                         self.assertIn(node.id, bound | OF_PYTHON)
 
+    def test_each_name_has_one_meaning(self):
+        for name, tree in trees():
+            imports = [alias.name for node in tree.body if isinstance(node, ast.ImportFrom) for alias in node.names]
+            classes = [node.name for node in tree.body if isinstance(node, ast.ClassDef)]
+            functions = [node for node in tree.body if isinstance(node, ast.FunctionDef)]
+            values = [node.targets[0].id for node in tree.body if isinstance(node, ast.Assign)]
+            at_top = imports + classes + [node.name for node in functions] + values
+            local = set().union(*[bound_names(node) - {node.name} for node in functions])
+            with self.subTest(file=name):
+                self.assertEqual(len(at_top), len(set(at_top)))
+                self.assertEqual(local & set(imports + classes), set())
+
     def test_fields_and_methods(self):
         own_methods = {method.name for name, node in nodes(ast.ClassDef) for method in node.body
                        if isinstance(method, ast.FunctionDef)}

@@ -1,13 +1,11 @@
-"""value, value_from, plan_value, best_count, lookahead_count and requirement 1."""
+"""value, value_from, plan_value, best_count and lookahead_count."""
 
-import itertools
 import math
 import unittest
 
 from tests.asking import (
-    BEST_COUNT, CREATE, GREATEST_NUMBER, LOOKAHEAD_COUNT, REMOVE_LAST_DAY, VALUE, add_day, as_answer, as_fraction, ask,
-    ask_of, best_count_by_the_document, lookahead_count_by_the_document, plan_value, plan_value_by_the_document,
-    set_day, value_by_the_document, value_from,
+    BEST_COUNT, CREATE, GREATEST_NUMBER, LOOKAHEAD_COUNT, REMOVE_LAST_DAY, VALUE, add_day, as_answer, ask, ask_of,
+    plan_value, plan_value_by_the_document, set_day, value_by_the_document, value_from,
 )
 
 # The two days of the document's own session.
@@ -17,31 +15,6 @@ SESSION = [(10, 1, 10, 50), (10, 1, 2, 50)]
 TEN_PRIMES = [97, 89, 83, 79, 73, 71, 67, 61, 59, 53]
 TEN_DAYS = [(902, 1, prime, 1000) for prime in TEN_PRIMES]
 TEN_BAD_DAYS = [(1, 1, prime, 10000) for prime in TEN_PRIMES]
-
-FEW_DAYS = [
-    (gain, numerator, denominator, cost)
-    for gain in (0, 3)
-    for numerator, denominator in ((0, 1), (1, 3), (2, 4), (1, 1))
-    for cost in (0, 1, 6)
-]
-
-
-def small_campaigns():
-    for length in range(3):
-        yield from itertools.product(FEW_DAYS, repeat=length)
-    yield from itertools.product(FEW_DAYS[::2], repeat=3)
-
-
-def mixed_campaign(seed, length):
-    """Days that look mixed, the same ones at every run."""
-    days = []
-    state = seed
-    for _ in range(length):
-        state = (state * 1103515245 + 12345) % 2147483648
-        denominator = 1 + state // 7 % 100
-        numerator = state // 701 % (denominator + 1) // (1 + state // 70003 % 9)
-        days.append((state // 13 % 1001, numerator, denominator, state // 1009 % 10001 // (1 + state // 90001 % 50)))
-    return days
 
 
 class ValueTest(unittest.TestCase):
@@ -220,34 +193,6 @@ class LookaheadCountTest(unittest.TestCase):
         self.assertEqual(ask_of([(0, 1, 2, 10), (100, 0, 1, 0)], LOOKAHEAD_COUNT, BEST_COUNT), [[0], [2]])
         # The second day alone is worthwhile, and counts after a first one that is.
         self.assertEqual(ask_of([(10, 1, 10, 50), (1, 0, 1, 0), (0, 1, 2, 1)], LOOKAHEAD_COUNT), [[2]])
-
-
-class RequirementTest(unittest.TestCase):
-    def check(self, days):
-        plans = [plan_value(count) for count in range(len(days) + 1)]
-        told = ask_of(days, VALUE, BEST_COUNT, LOOKAHEAD_COUNT, *plans)
-        value = as_fraction(told[0])
-        best = told[1][0]
-        plan_values = [as_fraction(answer) for answer in told[3:]]
-        self.assertEqual(value, plan_values[best])
-        self.assertEqual(value, max(plan_values))
-        self.assertNotIn(value, plan_values[:best])
-        self.assertEqual(told[0], as_answer(value_by_the_document(days)))
-        self.assertEqual(best, best_count_by_the_document(days))
-        self.assertEqual(told[2], [lookahead_count_by_the_document(days)])
-        for count, answer in enumerate(told[3:]):
-            self.assertEqual(answer, as_answer(plan_value_by_the_document(count, days)))
-
-    def test_requirement_1_over_small_campaigns(self):
-        for days in small_campaigns():
-            with self.subTest(days=days):
-                self.check(days)
-
-    def test_requirement_1_over_mixed_campaigns(self):
-        for seed in range(300):
-            days = mixed_campaign(seed, seed % 11)
-            with self.subTest(days=days):
-                self.check(days)
 
 
 if __name__ == "__main__":
